@@ -92,7 +92,7 @@ def pump(grammar, tree, outer, inner, times):
         raise NoTree("the outer path is no beginning of the inner one")
     whole = tree_at(tree, outer)
     part = tree_at(tree, inner)
-    if isinstance(part, str) or root_of(grammar, part) != root_of(grammar, whole) or row_of(part) != row_of(whole):
+    if root_of(grammar, part) != root_of(grammar, whole) or row_of(part) != row_of(whole):
         raise NoTree("the trees at the paths are not of one part with one row")
     if not is_number_below(times, MOST_TIMES + 1):
         raise NoDeed("a tree is pumped 0 to 5 times")

@@ -31,7 +31,7 @@ class Grammar:
 
     def has_word(self, name):
         """Whether a name is one of the words."""
-        return isinstance(name, str) and name in self.known
+        return name in self.known
 
     def length_of(self, number):
         """How many names stand behind the part in a rule."""

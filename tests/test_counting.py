@@ -11,6 +11,7 @@ from tests.looks import (
     chain_rules, grammar_of, is_pumpable, is_tree_of, name_of, order_of, plain_trees, samples, start_trees, things,
     tree_within, words_in,
 )
+from tests.test_bounds import empty_chain
 
 
 def joining(readings):
@@ -84,6 +85,8 @@ class HowMany(Looks):
                 self.assertFalse(any(is_pumpable(grammar, tree) for tree in low))
             else:
                 self.check_pumped(grammar, row, told)
+                sizes = [order_of(tree)[0] for tree in low if is_pumpable(grammar, tree)]
+                self.assertTrue(rules_in(told[0]) == sizes[0] if sizes else rules_in(told[0]) > 5)
         self.assertTrue(min(seen.values()) > 20)
 
     def test_the_whole_number(self):
@@ -137,9 +140,8 @@ class Pumped(Looks):
         self.assertEqual(rules_in(told[0]), 151)
 
     def test_very_large_trees_are_told_where_first_trees_are_small(self):
-        empty = [("e" + part, tuple("e" + name for name in names if name != "w")) for part, names in chain_rules(60)]
         ring = [(name_of(at), ("eqa",) * 4 + (name_of((at + 1) % 110),) + ("eqa",) * 3) for at in range(110)]
-        grammar = Grammar([(name_of(at), ("w",)) for at in range(110)] + ring + empty)
+        grammar = Grammar([(name_of(at), ("w",)) for at in range(110)] + ring + empty_chain(60))
         tree, outer, inner = pumped(grammar, ("w",))
         self.assertEqual((outer, inner), ((), (4,) * 110))
         self.assertEqual(rules_in(tree), 1 + 110 * (1 + 7 * 60))
@@ -190,6 +192,13 @@ class Pump(Looks):
                              (self.outer, None), ((10 ** 30,), self.inner), (("1",), self.inner), ("", self.inner)):
             with self.assertRaises(NoTree, msg=(outer, inner)):
                 pump(self.grammar, self.tree, outer, inner, 1)
+
+    def test_side_by_side_is_not_within(self):
+        grammar = grammar_of("s=e f;e=;f=e")
+        tree = (0, ((1, ()), (2, ((1, ()),))))
+        for outer, inner in (((0,), (1, 0)), ((1,), (1, 0)), ((1, 0), (0,))):
+            with self.assertRaises(NoTree):
+                pump(grammar, tree, outer, inner, 1)
 
     def test_rows_must_be_the_same(self):
         grammar = grammar_of("s=s a;s=a;s=s")
