@@ -3,9 +3,10 @@
 import unittest
 
 from paperreader.errors import NoTree
+from paperreader.grammars import Grammar
 from paperreader.trees import is_tree, rules_in
 from paperreader.treetexts import read_tree, tree_text
-from tests.looks import chances, grammar_of, random_grammar, start_trees, things
+from tests.looks import chain_rules, chances, grammar_of, random_grammar, start_trees, things
 from tests.test_trees import LISP, side_by_side, within
 
 SIGNS = "0129 ()abs\n\t+-,x"
@@ -39,6 +40,17 @@ class Read(unittest.TestCase):
             self.assertEqual(read_tree(grammar, tree_text(tree)), tree)
         self.refused(grammar, "s")
         self.refused(grammar, "b")
+
+    def test_numbers_of_one_to_three_figures(self):
+        grammar = Grammar(chain_rules(300))
+        for number, text in ((299, "299(w)"), (298, "298(299(w))")):
+            self.assertEqual(tree_text(read_tree(grammar, text)), text)
+            self.assertEqual(read_tree(grammar, text)[0], number)
+        whole = "".join(f"{number}(" for number in range(101, 300)) + "w" + ")" * 199
+        self.assertEqual(rules_in(read_tree(grammar, whole)), 199)
+        self.assertEqual(read_tree(Grammar(chain_rules(11)), "9(10(w))"), (9, ((10, ("w",)),)))
+        self.refused(grammar, "300(w)")
+        self.refused(grammar, "2999(w)")
 
     def test_one_sign_changed(self):
         grammar = grammar_of(LISP)
