@@ -41,6 +41,11 @@ INTERFACE = {
     "readings": "reading(grammar,row)",
     "counting": "how_many(grammar,row) pumped(grammar,row) pump(grammar,tree,outer,inner,times)"
                 " first_trees(grammar,row,most)",
+    "coming": "is_beginning(grammar,row) goes_on(grammar,row) wrong_at(grammar,row) rest_of(grammar,row)",
+    "tables": "Table(states)",
+    "readers": "run(grammar,table,row)",
+    "holding": "holds(grammar,table)",
+    "full": "full_table(grammar)",
 }
 
 
