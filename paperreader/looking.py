@@ -38,6 +38,11 @@ def barren(grammar, parts):
 
 def trimmed(grammar):
     """The grammar of the rules that trees of the start can have."""
+    return Grammar(live_rules(grammar))
+
+
+def live_rules(grammar):
+    """The rules that trees of the start can have, the start's first; NoGrammar where it has no tree."""
     good = made_of(grammar, {word: True for word in grammar.words})
     if grammar.start not in good:
         raise NoGrammar("no row of words comes of the start")
@@ -45,7 +50,7 @@ def trimmed(grammar):
     kept = led_from(parts_beneath(rules), [grammar.start])
     rules = [rule for rule in rules if rule[0] in kept]
     ahead = [rule for rule in rules if rule[0] == grammar.start]
-    return Grammar(ahead + [rule for rule in rules if rule[0] != grammar.start])
+    return ahead + [rule for rule in rules if rule[0] != grammar.start]
 
 
 def listed(grammar, names):

@@ -189,6 +189,13 @@ class Rests(unittest.TestCase):
         self.assertEqual(goes_on(grammar, ("w",) * 24), ("w",))
         self.assertEqual(wrong_at(grammar, ("w",) * 24), 24)
 
+    def test_many_words_where_a_first_tree_is_large(self):
+        # Of 512 words and 73 rules is h: six of it are told, 24 times six are not.
+        grammar = grammar_of(f"s=a s h h h h h h;s=;h={'i ' * 8};i={'j ' * 8};j={'b ' * 8}")
+        self.assertEqual(rest_of(grammar, ("a",)), ("b",) * 3072)
+        with self.assertRaises(TooMany):
+            rest_of(grammar, ("a",) * 24)
+
     def test_beside_what_is_too_long(self):
         rules = [("s", ("a", "b", "c")), ("s", ("a", name_of(0)))]
         rules += [(name_of(at), (name_of(at + 1),) * 8) for at in range(80)] + [(name_of(80), ("w",))]

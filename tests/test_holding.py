@@ -27,6 +27,15 @@ def state_with(table, note):
     return [at for at, state in enumerate(table.states) if note in state[2]][0]
 
 
+def with_a_second_top(table):
+    """The table with its state 0 once more as state 1, to which nothing leads."""
+    states = []
+    for deeds, goes, notes in table.states:
+        deeds = tuple((word, (deed[0], deed[1] + 1) if deed[0] == "shift" else deed) for word, deed in deeds)
+        states.append((deeds, tuple((part, number + 1) for part, number in goes), notes))
+    return Table(states[:1] + states)
+
+
 def mutated(chance, grammar, table):
     """The table with one deed, go or note less, more or otherwise; None where that is no table."""
     states = list(table.states)
@@ -136,6 +145,7 @@ class EachPoint(unittest.TestCase):
     def test_no_other_state_begins(self):
         table = self.table
         self.breaks(Table(list(table.states) + [table.states[0]]))
+        self.breaks(with_a_second_top(table))
         self.assertIs(holds(GRAMMAR, Table(list(table.states) + [((), (), ())])), True)
 
     def test_notes_ask_for_rules_with_each_word(self):

@@ -46,6 +46,11 @@ INTERFACE = {
     "readers": "run(grammar,table,row)",
     "holding": "holds(grammar,table)",
     "full": "full_table(grammar)",
+    "short": "short_table(grammar)",
+    "changes": "Change.there(tree) Change.back(tree) Change.then(other)",
+    "moves": "trimming(grammar) twos(grammar) unfolding(grammar,k,at) turning(grammar,part)",
+    "plainer": "filled(grammar) straight(grammar)",
+    "leftless": "leftless(grammar) worded(grammar)",
 }
 
 

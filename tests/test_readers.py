@@ -158,6 +158,17 @@ class Rings(unittest.TestCase):
         self.refused(grammar, full_table(grammar)[1], row)
         self.assertEqual(run(grammar, full_table(grammar)[1], row[1:])[0], "tree")
 
+    def test_the_3000th_make_ahead_of_all_words(self):
+        inner, low = chain("l", 50, ())
+        for many in (2998, 2999, 3000):
+            last, end = chain("u", many - 1 - 7 * 401, ())
+            grammar = Grammar([("s", ("t",) * 7 + (end,)), ("t", (low,) * 8)] + inner + last)
+            if many == 3000:
+                self.refused(grammar, full_table(grammar)[1], ())
+            else:
+                kind, tree = run(grammar, full_table(grammar)[1], ())
+                self.assertEqual((kind, rules_in(tree)), ("tree", many))
+
     def test_2999_makes_and_then_wrong(self):
         grammar, row = made_at_end(2999)
         states = list(full_table(grammar)[1].states)
