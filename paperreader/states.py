@@ -57,9 +57,9 @@ class States:
                 longer = mask | asked.get(name, 0)
                 if longer != asked.get(name, 0):
                     asked[name] = longer
-                    cores = [(opened, 0) for opened in self.grammar.rules_of(name)]
-                    found.update({core: longer for core in cores})
-                    todo.extend(cores)
+                    for opened in self.grammar.rules_of(name):
+                        found[(opened, 0)] = longer
+                        todo.append((opened, 0))
         return found
 
     def lead_on(self, at):

@@ -39,18 +39,18 @@ class Turning(Stage):
             part = todo.pop()
             if part not in done:
                 done[part] = True
-                turned = self.turned(first, part)
-                found.update(turned)
+                for rule, source in self.turned(first, part):
+                    found[rule] = [source]
+                    todo.extend([name for name in rule[1] if first.has_part(name)])
                 check_drafted(found)
-                todo.extend([name for rule in turned for name in rule[1] if first.has_part(name)])
         Stage.__init__(self, first, Draft(first.start, found))
 
     def turned(self, first, top):
-        """The rules of a part, and of the new parts that stand behind its corners."""
+        """The rules of a part, and of the new parts that stand behind its corners, each with its source."""
         reached = led_from(self.steps, [top])
         # From these parts, each at a corner, it is gone on up to the top.
         upward = {part: True for upper in reached for part in self.steps.get(upper, [])}
-        found = {}
+        found = []
         for part in sorted(reached):
             for number in first.rules_of(part):
                 names = first.rules[number][1]
@@ -59,9 +59,9 @@ class Turning(Stage):
                     head = self.new_part(top, names[0])
                     names = names[1:]
                 if part == top:
-                    found[(head, names)] = [(top, number, False)]
+                    found.append(((head, names), (top, number, False)))
                 if part in upward:
-                    found[(head, names + (self.new_part(top, part),))] = [(top, number, True)]
+                    found.append(((head, names + (self.new_part(top, part),)), (top, number, True)))
         return found
 
     def new_part(self, top, part):
