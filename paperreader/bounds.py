@@ -3,15 +3,17 @@
 from paperreader.errors import TooMany
 
 MOST_TOLD = 10000
+# Where what is alike in a tree is one tuple, a larger one can be told.
+MOST_SHARED = 1000000
 SMALL = 60
 
 
-def check_told(grammar, least, many):
+def check_told(grammar, least, many, most=MOST_TOLD):
     """Refuse to tell a tree of so many rules, of a row whose least tree has least of them.
 
     There is no refusal where neither that one nor the first tree of any part has more than 60.
     """
-    if many > MOST_TOLD and (least > SMALL or not has_small_firsts(grammar)):
+    if many > most and (least > SMALL or not has_small_firsts(grammar)):
         raise TooMany("a tree of more rules than are told")
 
 
@@ -23,7 +25,17 @@ def has_small_firsts(grammar):
 
 def first_sizes(grammar):
     """For each word and fruitful part how many words, and rules, its first tree has."""
-    sizes = {word: (1, 0) for word in grammar.words}
+    return least_sizes(grammar, (1, 0))
+
+
+def fewest_sizes(grammar):
+    """For each word and fruitful part its least size where words count nothing: (0, its fewest rules)."""
+    return least_sizes(grammar, (0, 0))
+
+
+def least_sizes(grammar, of_word):
+    """For each word and fruitful part its least size, where each word has this one."""
+    sizes = {word: of_word for word in grammar.words}
     has_changed = True
     while has_changed:
         has_changed = False

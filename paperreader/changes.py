@@ -1,11 +1,9 @@
 """Changes: from a grammar to another one, with trees carried there and back."""
 
-from paperreader.bounds import has_small_firsts
-from paperreader.errors import NoDeed, NoTree, TooMany
+from paperreader.bounds import MOST_SHARED, check_told
+from paperreader.errors import NoDeed, NoTree
 from paperreader.pools import carried, pool_of, size_of, tree_of
 from paperreader.trees import is_tree, root_of, row_of
-
-MOST_CARRIED = 1000000
 
 
 class Change:
@@ -33,8 +31,7 @@ class Change:
         pool = pool_of(tree)
         for stage in self.stages[::-1]:
             pool = carried(pool, stage, False)
-        if size_of(pool) > MOST_CARRIED and not has_small_firsts(self.first):
-            raise TooMany("a tree of more rules than are told")
+        check_told(self.first, 0, size_of(pool), MOST_SHARED)
         return tree_of(pool)
 
     def then(self, other):

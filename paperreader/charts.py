@@ -12,7 +12,12 @@ def least_chart(grammar, row):
 
 def chart_of(columns):
     """The columns as a chart."""
-    return tuple([tuple(sorted(column.held)) for column in columns])
+    return tuple([items_of(column) for column in columns])
+
+
+def items_of(column):
+    """The items of a column, rising."""
+    return tuple(sorted(column.held))
 
 
 def refuses(grammar, row, chart):

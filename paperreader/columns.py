@@ -20,9 +20,14 @@ def columns_of(grammar, row):
     columns = []
     add_column(grammar, columns, [(number, 0, 0) for number in grammar.rules_of(grammar.start)])
     for word in row:
-        waiting = columns[-1].waiting.get(word, []) if grammar.has_word(word) else []
-        add_column(grammar, columns, [stepped(item) for item in waiting])
+        add_word(grammar, columns, word)
     return columns
+
+
+def add_word(grammar, columns, word):
+    """Add the column to which a word leads from the last one; those that are there stay as they are."""
+    waiting = columns[-1].waiting.get(word, []) if grammar.has_word(word) else []
+    add_column(grammar, columns, [stepped(item) for item in waiting])
 
 
 def stepped(item):

@@ -25,21 +25,31 @@ def is_text(thing):
 
 def read(text):
     """The grammar that a text tells; NoText where it tells none."""
+    rows = rows_of(text)
+    rules = rules_told(rows)
+    if not rules:
+        raise NoText(len(rows) - 1)
+    return Grammar(rules)
+
+
+def rows_of(text):
+    """The rows of a text; NoText of what is none."""
     if not is_text(text):
         raise NoText(0)
-    rows = text.split("\n")
+    return text.split("\n")
+
+
+def rules_told(rows):
+    """The rules that rows tell, each once; NoText of the first row that is not of such a form."""
     rules = {}
     for at, row in enumerate(rows):
         words = row.split()
-        if not tells_something(words):
-            continue
-        rule = rule_told(words)
-        if rule is None:
-            raise NoText(at)
-        rules[rule] = True
-    if not rules:
-        raise NoText(len(rows) - 1)
-    return Grammar(list(rules))
+        if tells_something(words):
+            rule = rule_told(words)
+            if rule is None:
+                raise NoText(at)
+            rules[rule] = True
+    return list(rules)
 
 
 def tells_something(words):

@@ -12,9 +12,15 @@ def reading(grammar, row):
     """("tree", a tree of fewest rules), or ("chart", a chart that refuses the row)."""
     check_row(row)
     columns = columns_of(grammar, row)
+    tree = least_tree(grammar, columns)
+    return ("chart", chart_of(columns)) if tree is None else ("tree", tree)
+
+
+def least_tree(grammar, columns):
+    """A tree of fewest rules of the row that has these columns, or None where it has none."""
     forest = Forest(grammar, columns)
     if not forest.choices[0]:
-        return ("chart", chart_of(columns))
+        return None
     fewest = Fewest(forest)
     check_told(grammar, fewest.counts[0], fewest.counts[0])
-    return ("tree", fewest.trees[0])
+    return fewest.trees[0]

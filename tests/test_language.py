@@ -51,7 +51,15 @@ INTERFACE = {
     "moves": "trimming(grammar) twos(grammar) unfolding(grammar,k,at) turning(grammar,part)",
     "plainer": "filled(grammar) straight(grammar)",
     "leftless": "leftless(grammar) worded(grammar)",
+    "machines": "Machine(many,steps,ends) Machine.takes(row)",
+    "crossing": "ways(grammar,machine) are_closed(grammar,machine,ways) show_none(grammar,machine,ways)"
+                " meet(grammar,machine)",
+    "numbering": "count_trees(grammar,part,rules) nth_tree(grammar,part,rules,n) place_of(grammar,tree)",
+    "firsts": "first_tree(grammar,part) endless(grammar)",
+    "costs": "cost_between(row,other)",
 }
+# The interface itself calls an argument of two functions like a third one.
+SHARED = {"crossing": {"ways"}}
 
 
 def modules():
@@ -171,7 +179,7 @@ class Code(unittest.TestCase):
 
     def test_local_names(self):
         for name, _, tree in modules():
-            barred = set(names_bound(tree)) | set(dir(builtins))
+            barred = (set(names_bound(tree)) - SHARED.get(name, set())) | set(dir(builtins))
             for node in functions_in(tree):
                 local = {arg.arg for arg in node.args.args}
                 for inner in ast.walk(node):
@@ -237,7 +245,7 @@ class Interface(unittest.TestCase):
                 if inspect.isclass(thing):
                     thing = vars(thing)[method or "__init__"]
                     arguments = "self," + arguments
-                self.assertEqual(list(inspect.signature(thing).parameters), arguments.split(","), told)
+                self.assertEqual(list(inspect.signature(thing).parameters), arguments.rstrip(",").split(","), told)
 
     def test_the_package_binds_nothing(self):
         tree = ast.parse((PACKAGE / "__init__.py").read_text())
