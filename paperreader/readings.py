@@ -1,6 +1,6 @@
 """Rows read: a tree, or a chart that shows that there is none."""
 
-from paperreader.bounds import check_told
+from paperreader.bounds import MOST_SHARED, check_told
 from paperreader.charts import chart_of
 from paperreader.columns import columns_of
 from paperreader.fewest import Fewest
@@ -22,5 +22,5 @@ def least_tree(grammar, columns):
     if not forest.choices[0]:
         return None
     fewest = Fewest(forest)
-    check_told(grammar, fewest.counts[0], fewest.counts[0])
+    check_told(grammar, fewest.counts[0], fewest.counts[0], MOST_SHARED)
     return fewest.trees[0]

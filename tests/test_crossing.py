@@ -288,6 +288,19 @@ class Meets(unittest.TestCase):
         machine = Machine(2, [(0, "a", 0), (0, "b", 1)], [1])
         self.assertEqual(row_of(meet(grammar, machine)[1]), ("a",) * 413 + ("b",))
 
+    def test_long_rows_of_large_trees(self):
+        # Of so many levels come 3 * 2 ** levels - 2 words, where each part's first tree is one of one word.
+        for levels, many in ((11, 6142), (12, None)):
+            names = [name_of(number) for number in range(levels + 1)]
+            rules = [(names[at], ("b", names[at + 1], names[at + 1], "c")) for at in range(levels)]
+            grammar = Grammar(rules + [(names[levels], ("a",))] + [(name, ("d",)) for name in names])
+            machine = Machine(1, [(0, word, 0) for word in "abc"], [0])
+            if many is None:
+                with self.assertRaises(TooMany):
+                    meet(grammar, machine)
+            else:
+                self.assertEqual(len(row_of(meet(grammar, machine)[1])), many)
+
     def test_too_many(self):
         names = [name_of(number) for number in range(100)]
         rules = [(names[at], ("b", names[at + 1], names[at + 1])) for at in range(99)] + [(names[99], ("a",))]

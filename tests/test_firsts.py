@@ -8,8 +8,8 @@ from paperreader.grammars import Grammar
 from paperreader.looking import fruitful, trimmed
 from paperreader.trees import row_of, rules_in
 from tests.looks import (
-    chain_rules, chances, grammar_of, is_tree_of, name_of, order_of, random_grammar, things, tree_within,
-    trees_by_size, words_in,
+    chain_rules, chances, grammar_of, inner_trees, is_tree_of, name_of, order_of, random_grammar, start_trees, things,
+    tree_within, trees_by_size, words_in,
 )
 from tests.textlooks import rows_by_part
 
@@ -46,6 +46,14 @@ def never_end_by_look(grammar):
         if more <= held:
             return any((part, part, True) in held for part in grammar.parts)
         held |= more
+
+
+def shows_never_end(grammar, tree):
+    """Whether in a tree a part stands within another one of its own with a longer row."""
+    return any(
+        grammar.rules[whole[0]][0] == grammar.rules[part[0]][0] and len(words_in(whole)) > len(words_in(part))
+        for whole in inner_trees(tree) for part in inner_trees(whole)[1:]
+    )
 
 
 def lengths_up_to(grammar, most):
@@ -160,6 +168,20 @@ class Endless(unittest.TestCase):
             kinds[self.check(grammar)] += 1
         self.assertGreater(min(kinds), 150)
 
+    def test_no_smaller_tree_shows_it(self):
+        found = 0
+        for chance in chances(500, "endless least"):
+            grammar = random_grammar(chance, parts=chance.randint(1, 4), words=1, most_rules=8, most_names=3)
+            told = endless(grammar)
+            for tree in start_trees(grammar, 5):
+                if shows_never_end(grammar, tree):
+                    self.assertEqual(rules_in(told[0]), rules_in(tree))
+                    found += 1
+                    break
+            else:
+                self.assertTrue(told is None or rules_in(told[0]) > 5)
+        self.assertGreater(found, 150)
+
     def test_lengths_of_texts(self):
         # Where texts never end there are ever longer ones; where they end none is very long.
         for chance in chances(150, "endless texts"):
@@ -182,6 +204,8 @@ class Endless(unittest.TestCase):
         self.assertTrue(self.check(grammar))
         tree, outer, inner = endless(grammar)
         self.assertEqual((outer, inner, row_of(tree)), ((), (0,), ("b",)))
+        grammar = grammar_of("s=s e;s=;e=;j=b;k=j;m=k;e=m;e=n;n=b")
+        self.assertEqual(endless(grammar), ((0, ((1, ()), (7, ((8, ("b",)),)))), (), (0,)))
 
     def test_chains_with_a_ring_at_the_end_or_without(self):
         for many in (60, 120, 298):

@@ -57,6 +57,12 @@ INTERFACE = {
     "numbering": "count_trees(grammar,part,rules) nth_tree(grammar,part,rules,n) place_of(grammar,tree)",
     "firsts": "first_tree(grammar,part) endless(grammar)",
     "costs": "cost_between(row,other)",
+    "mending": "mended(grammar,row)",
+    "tolls": "is_fair(grammar,row,toll) toll_of(grammar,row)",
+    "kept": "Kept(grammar,row) Kept.now() Kept.chart() Kept.reading_now() Kept.put(at,word) Kept.cut(at)"
+            " Kept.change(at,word) Kept.back() Kept.kept()",
+    "unlike": "parted(one,other,most) twofold(grammar,most)",
+    "desk": "answers(text)",
 }
 # The interface itself calls an argument of two functions like a third one.
 SHARED = {"crossing": {"ways"}}

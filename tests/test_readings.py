@@ -95,6 +95,12 @@ class Readings(unittest.TestCase):
             reading(Grammar(rules), ())
         self.assertEqual(reading(Grammar(rules), ("a",))[0], "chart")
 
+    def test_large_trees_of_short_rows(self):
+        for many in (10, 13, 18):
+            rules = [(name_of(at), (name_of(at + 1),) * 2) for at in range(many)] + [(name_of(many), ())]
+            kind, tree = reading(Grammar(rules), ())
+            self.assertEqual((kind, rules_in(tree)), ("tree", 2 ** (many + 1) - 1))
+
     def test_no_row(self):
         for thing in things() + [("a",) * 25, ["a"], ("a", 1), ("A",)]:
             if repr(thing) not in ("()", "('a',)", "('s',)"):
